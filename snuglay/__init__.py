@@ -1,0 +1,1 @@
+"""Snuglay: shapes laid on a sheet of least length."""

@@ -89,11 +89,8 @@ def free_spans(width, laid, piece, turn, left):
     return free_at(slices_at(blocks, plain(left)), top_of(width, parts))
 
 
-def filled(job):
+def fill(width, pieces):
     """The placements of the pieces, each the first one among those before it, or None."""
-    if not is_job(job):
-        raise BadValue(0)
-    width, pieces = plain(job)
     placements = []
     for at, piece in enumerate(pieces):
         placement = place_among(width, laid_pieces(pieces[:at], placements), piece)
@@ -101,6 +98,14 @@ def filled(job):
             return None
         placements.append(placement)
     return tuple(placements)
+
+
+def filled(job):
+    """The placements of the pieces of a job, each the first one among those before it, or None."""
+    if not is_job(job):
+        raise BadValue(0)
+    width, pieces = plain(job)
+    return fill(width, pieces)
 
 
 def length_of(job, value):

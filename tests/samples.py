@@ -1,6 +1,6 @@
 """Arguments for the functions of the package, right and wrong ones."""
 
-from snuglay import nofits, places, shapes
+from snuglay import least, nofits, papers, places, shapes, texts
 
 SQUARE = ((0, 0), (2, 0), (2, 2), (0, 2))
 WEDGE = ((0, 0), (2, 0), (0, 2))
@@ -16,6 +16,7 @@ LAID = ((BLOCK, (0, (0, 1), (1, 2))), (PAIR, (2, (9, 1), (4, 1))))
 
 BAD_FRACTIONS = [(2, 4), (0, 2), (1, 0), (1, -1), (-1, -2), (3,), (1, 2, 1), (), 0, 1, True, None, "1/2", (True, 1),
                  (1, True), ("1", "2"), ((1, 1), (1, 1)), 10 ** 30]
+BAD_BOUNDS = [value for value in BAD_FRACTIONS if value is not None]
 BAD_TURNS = [-1, 4, 10 ** 30, True, False, None, "0", (), (0,), [1]]
 BAD_WIDTHS = [0, -1, 101, 10 ** 30, -10 ** 30, True, False, None, "2", (), (2,), [2]]
 BAD_NAMES = ["", "A", "aB", "abcdefghi", "a b", "a\n", "a1", "-", "_", True, None, 0, ("a",), ["a"]]
@@ -84,18 +85,26 @@ CALLS = [
                          ("left", (1, 2), BAD_FRACTIONS + [(-1, 1), (-1, 10 ** 40)])]),
     (places.filled, [THE_JOB]),
     (places.length_of, [THE_JOB, VALUE]),
+    (least.least, [THE_JOB]),
+    (least.laying, [THE_JOB]),
+    (least.beside, [THE_JOB]),
+    (papers.paper, [THE_JOB]),
+    (papers.paper_holds, [THE_JOB, ("bound", least.least(JOB), BAD_BOUNDS)]),
+    (texts.printed, [THE_JOB]),
 ]
+# the last argument of these functions is a value about which they tell something, without BadValue
+LAST = {shapes.is_laying: ("value", PLACED), papers.paper_holds: ("text", papers.paper(JOB))}
 
 
 def arguments(function, rows):
     """The right arguments of a function of CALLS, also those that have no wrong values."""
     found = [right for name, right, wrong in rows]
-    return found + [PLACED] if function is shapes.is_laying else found
+    return found + [LAST[function][1]] if function in LAST else found
 
 
 def names(function, rows):
     found = [name for name, right, wrong in rows]
-    return found + ["value"] if function is shapes.is_laying else found
+    return found + [LAST[function][0]] if function in LAST else found
 
 
 def listed(value):

@@ -14,8 +14,8 @@ ALLOWED_BUILTINS = set(
 ALLOWED_METHODS = set(
     "append clear copy count endswith extend find get index insert isalnum isalpha isdigit islower isspace isupper"
     " items join keys ljust lower lstrip partition pop remove replace reverse rfind rjust rpartition rsplit rstrip"
-    " setdefault split splitlines startswith strip update upper values zfill bit_length add discard sort"
-    " __init__".split())
+    " setdefault split splitlines startswith strip update upper values zfill bit_length add discard isascii".split())
+CHANGING = set("append clear extend insert pop remove reverse setdefault update add discard".split())
 LIBRARY = {"math": {"gcd", "lcm", "isqrt", "comb"}, "heapq": {"heappush", "heappop", "heapify"},
            "itertools": {"product", "combinations", "permutations"}}
 BARRED_NAMES = set(
@@ -40,6 +40,18 @@ def bound_names(tree):
         elif isinstance(node, ast.Name) and isinstance(node.ctx, ast.Store):
             found.add(node.id)
     return found
+
+
+def own_methods():
+    """The names of all methods of the package's classes."""
+    return {row.name for path, tree in trees() for node in tree.body if isinstance(node, ast.ClassDef)
+            for row in node.body if isinstance(row, ast.FunctionDef)}
+
+
+def own_attributes():
+    """The names of all attributes that the package assigns."""
+    return {node.attr for path, tree in trees() for node in ast.walk(tree)
+            if isinstance(node, ast.Attribute) and isinstance(node.ctx, ast.Store)}
 
 
 def defined(tree):
@@ -142,7 +154,17 @@ class Language(unittest.TestCase):
                 if isinstance(node, ast.Name) and hasattr(builtins, node.id) and node.id not in own:
                     self.assertIn(node.id, ALLOWED_BUILTINS, (path, node.lineno))
                 if isinstance(node, ast.Call) and isinstance(node.func, ast.Attribute):
-                    self.assertIn(node.func.attr, ALLOWED_METHODS, (path, node.lineno))
+                    self.assertIn(node.func.attr, ALLOWED_METHODS | own_methods(), (path, node.lineno))
+                if isinstance(node, ast.JoinedStr):
+                    self.assertNotIn(chr(37), ast.unparse(node), (path, node.lineno))
+
+    def test_methods_and_attributes(self):
+        self.assertEqual(own_methods() & own_attributes(), set())
+        for name in own_methods() | own_attributes():
+            self.assertNotIn(name, BARRED_NAMES)
+            self.assertFalse(name.startswith(BARRED_STARTS[1:]), name)
+        for name in own_attributes():
+            self.assertFalse(any(hasattr(kind, name) for kind in (str, int, list, dict, set, bytes)), name)
 
     def test_loops_do_not_change_what_they_go_over(self):
         for path, tree in trees():
@@ -151,7 +173,7 @@ class Language(unittest.TestCase):
                     over = {node.id for node in ast.walk(loop.iter) if isinstance(node, ast.Name)}
                     for node in ast.walk(loop):
                         if isinstance(node, ast.Call) and isinstance(node.func, ast.Attribute):
-                            if isinstance(node.func.value, ast.Name):
+                            if isinstance(node.func.value, ast.Name) and node.func.attr in CHANGING:
                                 self.assertNotIn(node.func.value.id, over, (path, node.lineno))
 
 

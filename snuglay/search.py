@@ -7,6 +7,13 @@ from snuglay.rows import border_rows, pair_rows, pairs_of, place_of_length
 FINENESS = 1024
 
 
+def kin_of(pair, pairs):
+    """The numbers of the pairs that have a piece of this pair, those that have both of them twice."""
+    i, _, j, _ = pair
+    found = [at for at, other in enumerate(pairs) if i in (other[0], other[2])]
+    return found + [at for at, other in enumerate(pairs) if j in (other[0], other[2])]
+
+
 class Proof:
     """A sum with weights, or a fork with a branch for each half plane of a pair of parts.
 
@@ -32,12 +39,13 @@ class Search:
         self.borders = border_rows(width, shapes)
         self.quadruples = pairs_of(shapes)
         self.pairs = pair_rows(shapes)
-        self.start = first_base(shapes, self.borders)
+        self.kin = [kin_of(pair, self.quadruples) for pair in self.quadruples]
+        self.root = first_base(shapes, self.borders)
         self.proofs = {}
 
     def proof(self):
         """The proof that no laying is shorter than the limit, which is the least length then."""
-        return self.proof_from(self.start, self.borders, 0, list(range(len(self.pairs))))
+        return self.proof_from(self.root, self.borders, 0, list(range(len(self.pairs))))
 
     def proof_from(self, base, rows, decided, left):
         """The proof where half planes are decided and some pairs of parts are left.
@@ -51,7 +59,7 @@ class Search:
         if not crowded:
             self.keep(base)
             return self.sum_proof(weights_of(base, self.end))
-        pair, trials = self.best_fork(base, rows, decided, crowded)
+        pair, trials = self.best_fork(base, rows, decided, left, crowded)
         branches = [proof for proof, after in trials]
         rest = [other for other in left if other != pair]
         for at in self.shortest_first(trials):
@@ -74,18 +82,37 @@ class Search:
                 return False
         return True
 
-    def best_fork(self, base, rows, decided, pairs):
-        """The pair whose half planes leave the fewest branches, and a trial for each of them."""
+    def best_fork(self, base, rows, decided, left, crowded):
+        """One of the crowded pairs, to be decided next, and a trial for each of its half planes.
+
+        A pair goes first that leaves no branch or a single one, then one whose pieces
+        few decided pairs have, then one that leaves few and long branches. This order
+        does not matter for the answer: it was the one that led to the shortest papers.
+        """
         best, chosen, kept = None, None, None
-        for pair in pairs:
-            trials = [self.trial(base, rows, decided, row) for row in self.pairs[pair]]
-            lengths = [self.rough_length(after) for proof, after in trials if proof is None]
-            rank = (len(lengths), -min(lengths, default=0), -sum(lengths))
-            if best is None or rank < best:
-                best, chosen, kept = rank, pair, trials
-            if len(lengths) < 2:
-                break
+        ranked = [(len([other for other in self.kin[pair] if other not in left]), pair) for pair in crowded]
+        for related, pair in sorted(ranked):
+            trials = self.trials(base, rows, decided, pair, best is not None and related > best[0])
+            if trials is not None:
+                gaps = [self.gap_of(after) for proof, after in trials if proof is None]
+                if len(gaps) < 2:
+                    return pair, trials
+                rank = (related, sum([gap * gap for gap in gaps]))
+                if best is None or rank < best:
+                    best, chosen, kept = rank, pair, trials
         return chosen, kept
+
+    def trials(self, base, rows, decided, pair, is_last):
+        """A trial for each half plane of a pair; None if it is a last choice and leaves several branches."""
+        found, branches = [], 0
+        for row in self.pairs[pair]:
+            proof, after = self.trial(base, rows, decided, row)
+            if proof is None:
+                branches = branches + 1
+                if is_last and branches > 1:
+                    return None
+            found.append((proof, after))
+        return found
 
     def trial(self, base, rows, decided, row):
         """For a further half plane a proof and None, or None and the base with it."""
@@ -97,14 +124,14 @@ class Search:
             return None, after
         return self.sum_proof(weights), None
 
-    def rough_length(self, base):
-        """The length of a base in parts of 1, rounded down."""
-        return base[1][self.end] * FINENESS // base[0]
+    def gap_of(self, base):
+        """By how much the length of a base is below the limit, in parts of 1, roughly, above 0."""
+        return 1 + self.limit[0] * FINENESS // self.limit[1] - base[1][self.end] * FINENESS // base[0]
 
     def shortest_first(self, trials):
         """The numbers of the trials without a proof, those with a lesser length first."""
-        found = [(self.rough_length(after), at) for at, (proof, after) in enumerate(trials) if proof is None]
-        return [at for length, at in sorted(found)]
+        found = [(-self.gap_of(after), at) for at, (proof, after) in enumerate(trials) if proof is None]
+        return [at for gap, at in sorted(found)]
 
     def known(self, row, decided):
         """A proof found before that needs this half plane and others that are decided, or None."""

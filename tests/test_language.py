@@ -2,6 +2,7 @@
 
 import ast
 import builtins
+import tokenize
 import unittest
 from pathlib import Path
 
@@ -22,6 +23,10 @@ BARRED_NAMES = set(
     "mro elements open input law version_info with_traceback add_note register attrgetter breakpoint compile"
     " copyright credits delattr dir eval exec exit gc globals help importlib license locals methodcaller os quit"
     " setattr super type vars typing enum".split())
+BARRED_WORDS = set(
+    "mro elements open input law version_info with_traceback add_note register type typing typing_extensions enum Enum"
+    " IntEnum StrEnum Flag IntFlag Generic Protocol ABC ABCMeta namedtuple NamedTuple TypedDict TYPE_CHECKING"
+    " abstractmethod Counter OrderedDict ChainMap format eval exec lambda async await global".split())
 BARRED_STARTS = ("__", "_wall", "_pe_", "_dcw_", "_enum_", "_cm_", "_twin_re_", "_lay_", "_law_", "_stub_", "_sre")
 STATEMENTS = (ast.FunctionDef, ast.ClassDef, ast.Return, ast.Assign, ast.AugAssign, ast.For, ast.While, ast.If,
               ast.Raise, ast.Try, ast.Assert, ast.ImportFrom, ast.Expr, ast.Pass, ast.Break, ast.Continue, ast.Delete)
@@ -132,6 +137,15 @@ class Language(unittest.TestCase):
             used = {node.id for node in ast.walk(tree) if isinstance(node, ast.Name)}
             for name in imported(tree):
                 self.assertIn(name, used, path)
+
+    def test_words(self):
+        for path in FILES:
+            text = path.read_text()
+            for token in tokenize.generate_tokens(iter(text.splitlines(keepends=True)).__next__):
+                if token.type == tokenize.NAME:
+                    self.assertNotIn(token.string, BARRED_WORDS, (path, token.start))
+            for word in ("dataclass", "overload", "contextmanager", "_wall", "_WallAttr"):
+                self.assertNotIn(word, text, path)
 
     def test_statements_and_expressions(self):
         for path, tree in trees():

@@ -149,6 +149,9 @@ class Holds(unittest.TestCase):
         for weight in (GREAT + 1, 2 * GREAT, 10 * GREAT, 0, "00", "01", "-1", "+1", "1.", "1_0", "x", "", "\u0661"):
             self.assert_told(SINGLE, (0, 1), f"sum {weight} left 0 {weight} right 0", 0)
             self.assert_told(SINGLE, (0, 1), f"sum 1 left 0 {weight} right 0", 0)
+            # what is weighed with it would add nothing, or nothing that does harm
+            self.assert_told(SINGLE, (0, 1), f"sum 1 left 0 1 right 0 {weight} low 0", 0)
+            self.assert_told(SINGLE, (-1, 1), f"sum {weight} low 0 1 left 0 1 right 0 {weight} high 0", 0)
         for many in range(1, 63):
             line = "sum" + " 1 left 0 1 right 0" * (many // 2) + " 1 left 0" * (many % 2)
             self.assert_told(SINGLE, (0, 1), line, None if many == 2 else 0)
